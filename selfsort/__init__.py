@@ -1,0 +1,1 @@
+"""Selfsort: lists that move what is asked for, put in order unseen."""
