@@ -2,7 +2,7 @@
 
 from itertools import permutations
 
-from selfsort.kinds import is_between, is_tuple_of
+from selfsort.kinds import are_all_below, is_between
 from selfsort.wrongs import NoItem, NoItems, NoOrder, NoPlace
 
 LEAST_ITEMS = 2
@@ -26,21 +26,28 @@ def require_item(items, item):
         raise NoItem("an item is an integer from 0 to one less than the number of items")
 
 
+def holds_all_items(items, value):
+    """True if the value is a tuple of all of so many items, each once."""
+    # A set takes True for 1 and no list at all, so the kinds are settled before it is made.
+    return are_all_below(value, items) and len(value) == items and len(set(value)) == items
+
+
 def is_order(items, value):
     """True if the value is an order of so many items."""
     require_items(items)
-    if not is_tuple_of(value, items):
-        return False
-    # A set takes True for 1 and no list at all, so the kinds are settled before it is made.
-    if not all([is_between(entry, 0, items - 1) for entry in value]):
-        return False
-    return len(set(value)) == items
+    return holds_all_items(items, value)
 
 
 def require_order(order):
     """Raise NoOrder if order is not an order of 2, 3 or 4 items."""
-    if type(order) is not tuple or not is_number_of_items(len(order)) or not is_order(len(order), order):
+    if type(order) is not tuple or not is_number_of_items(len(order)) or not holds_all_items(len(order), order):
         raise NoOrder("an order is a tuple of all of 2, 3 or 4 items, each once")
+
+
+def require_order_of(items, order):
+    """Raise NoOrder if order is not an order of so many items."""
+    if not holds_all_items(items, order):
+        raise NoOrder("an order is a tuple of all items, each once")
 
 
 def all_orders(items):
@@ -56,11 +63,14 @@ def place_of(order, item):
     return order.index(item)
 
 
+def shifted(order, own_place, place):
+    """The order behind moving the item at its own place to a place that is not greater."""
+    return order[:place] + order[own_place:own_place + 1] + order[place:own_place] + order[own_place + 1:]
+
+
 def moved(order, item, place):
     """The order behind moving the item to the place."""
     own_place = place_of(order, item)
     if not is_between(place, 0, own_place):
         raise NoPlace("an item moves to a place from 0 to its own")
-    rest = [other for other in order if other != item]
-    rest.insert(place, item)
-    return tuple(rest)
+    return shifted(order, own_place, place)

@@ -2,7 +2,7 @@
 
 from selfsort.kinds import is_between, is_tuple_of
 from selfsort.orders import is_number_of_items, require_items
-from selfsort.wrongs import NoName
+from selfsort.wrongs import NoName, NoRule
 
 MOST_FLAGS = 2
 NAMES = ("front", "ahead", "still", "half", "second")
@@ -31,6 +31,12 @@ def is_rule(value):
         return False
     items, flags, table = value
     return is_number_of_items(items) and is_between(flags, 1, MOST_FLAGS) and is_table(table, items, flags)
+
+
+def require_rule(rule):
+    """Raise NoRule if rule is not a rule."""
+    if not is_rule(rule):
+        raise NoRule("a rule is a tuple (items, flags, table)")
 
 
 def goes_to(name, place):

@@ -1,4 +1,4 @@
-"""Values for the tests: odd ones, and ones that are near a right one."""
+"""Values for the tests: odd ones, ones that are near a right one, and drawn ones."""
 
 
 def nested(depth, kind):
@@ -35,6 +35,11 @@ def near_integer(value):
     return [value - 1, value + 1, -value - 1, True, False, None, str(value), (value,), [value], (), 10 ** 5000]
 
 
+def near_text(value):
+    """What might be taken for the text, and texts that are like it."""
+    return [value[:-1], value + " ", value.upper(), value + value, "", (value,), [value], list(value), 0, True, None]
+
+
 def near_tuple(value):
     """What might be taken for the tuple, and tuples that are like it."""
     parts = [list(value), value[:-1], value[1:], value + value[-1:], value[:1] + value, value[::-1], (value,), [value]]
@@ -45,10 +50,22 @@ def near_tuple(value):
 
 
 def near(value):
-    """Values near a value of integers and tuples: each part exchanged, left out, put in or turned round."""
+    """Values near a value of integers, texts and tuples: each part exchanged, left out, put in or turned round."""
     if isinstance(value, tuple):
         return near_tuple(value)
+    if isinstance(value, str):
+        return near_text(value)
     return near_integer(value)
+
+
+def near_paper(paper):
+    """Values near a paper: entries left out, put in, bent, turned round, and the paper as another kind."""
+    found = [tuple(paper), [paper], (paper,), None, True, 0, "", (), [], [()], [None], [0], [[]], paper + [()]]
+    found += [paper + [None], paper + [True], paper + [paper], paper[::-1], paper + paper, paper + [nested(60, tuple)]]
+    found += [paper[:index] + paper[index + 1:] for index in range(len(paper))]
+    for index, entry in enumerate(paper):
+        found += [paper[:index] + [other] + paper[index + 1:] for other in near(entry)]
+    return found
 
 
 def unchanged_by(call, *arguments):
@@ -59,3 +76,42 @@ def unchanged_by(call, *arguments):
     except ValueError:
         pass
     return before == strictly(arguments)
+
+
+class Draw:
+    """Drawn things, the same ones for the same start on every machine."""
+
+    def __init__(self, start):
+        self.state = start
+
+    def below(self, bound):
+        """An integer from 0 to one less than the bound."""
+        self.state = (self.state * 6364136223846793005 + 1442695040888963407) % 2 ** 64
+        return (self.state >> 33) % bound
+
+    def one(self, values):
+        """One of the values."""
+        return values[self.below(len(values))]
+
+    def some(self, values, many):
+        """So many of the values, or all of them if they are not so many, in some order."""
+        left = list(values)
+        return [left.pop(self.below(len(left))) for _ in range(min(many, len(left)))]
+
+    def rule(self, items, flags):
+        """A rule of so many items and flags."""
+        rows = [[(self.below(place + 1), self.below(flags)) for _ in range(flags)] for place in range(items)]
+        return (items, flags, tuple([tuple(row) for row in rows]))
+
+    def rules(self, items, many):
+        """So many rules of so many items, each with one or two flags."""
+        return tuple([self.rule(items, 1 + self.below(2)) for _ in range(many)])
+
+    def asks(self, items, many):
+        """A tuple of so many items."""
+        return tuple([self.below(items) for _ in range(many)])
+
+    def goal(self, items):
+        """A goal of rules with so many items."""
+        sorted_goal = ("sorted", tuple(self.some(range(items), items)))
+        return self.one([("order",), sorted_goal, ("rule",), ("case",), ("front", self.below(items))])

@@ -3,7 +3,7 @@
 import inspect
 import unittest
 
-from selfsort import orders, rules, wrongs
+from selfsort import goals, lots, orders, papers, parting, rules, standings, trees, ways, wrongs
 
 FUNCTIONS = (
     (orders, "is_order", ["items", "value"]),
@@ -12,6 +12,38 @@ FUNCTIONS = (
     (orders, "moved", ["order", "item", "place"]),
     (rules, "is_rule", ["value"]),
     (rules, "named_rule", ["items", "value"]),
+    (standings, "is_standing", ["rule", "value"]),
+    (standings, "all_standings", ["rule"]),
+    (standings, "ask", ["rule", "standing", "item"]),
+    (standings, "run", ["rule", "standing", "asks"]),
+    (ways, "reached", ["rule", "standing"]),
+    (ways, "least_way", ["rule", "standing", "order"]),
+    (ways, "no_way", ["rule", "standing", "order"]),
+    (ways, "is_no_way", ["rule", "standing", "order", "value"]),
+    (parting, "parting_asks", ["rules", "one", "other"]),
+    (parting, "parted_by", ["rules", "one", "other", "asks"]),
+    (lots, "are_rules", ["value"]),
+    (lots, "is_lot", ["rules", "value"]),
+    (lots, "first_lot", ["rules"]),
+    (lots, "answers", ["rules", "lot", "item"]),
+    (lots, "behind", ["rules", "lot", "item", "value"]),
+    (lots, "fitting", ["rules", "lot", "log"]),
+    (lots, "coming", ["rules", "lot"]),
+    (goals, "is_goal", ["rules", "value"]),
+    (goals, "reaches", ["rules", "lot", "goal"]),
+    (trees, "least_asks", ["rules", "lot", "goal"]),
+    (trees, "best_tree", ["rules", "lot", "goal"]),
+    (trees, "is_tree", ["rules", "lot", "goal", "value"]),
+    (trees, "height_of", ["rules", "lot", "goal", "value"]),
+    (papers, "hard_paper", ["rules", "lot", "goal", "k"]),
+    (papers, "is_hard", ["rules", "lot", "goal", "k", "value"]),
+    (papers, "endless_paper", ["rules", "lot", "goal"]),
+    (papers, "is_endless", ["rules", "lot", "goal", "value"]),
+)
+
+# A class, the arguments that it is made of, and those of its methods.
+CLASSES = (
+    (standings, "Store", ["rule", "standing"], {"ask": ["item"], "rule": [], "standing": [], "asked": []}),
 )
 
 ERRORS = (
@@ -34,6 +66,17 @@ class TestInterface(unittest.TestCase):
         for module, name, arguments in FUNCTIONS:
             with self.subTest(name=name):
                 self.assertEqual(list(inspect.signature(getattr(module, name)).parameters), arguments)
+
+    def test_each_class_is_defined_in_its_file_with_its_methods(self):
+        for module, name, arguments, methods in CLASSES:
+            with self.subTest(name=name):
+                found = getattr(module, name)
+                self.assertTrue(inspect.isclass(found))
+                self.assertEqual(found.__module__, module.__name__)
+                self.assertEqual(list(inspect.signature(found).parameters), arguments)
+                for method, passed in methods.items():
+                    self.assertIn(method, vars(found))
+                    self.assertEqual(list(inspect.signature(vars(found)[method]).parameters), ["self"] + passed)
 
     def test_each_error_is_defined_in_wrongs(self):
         for name, _ in ERRORS:

@@ -5,6 +5,7 @@ import unittest
 from selfsort.orders import all_orders, is_order, moved, place_of
 from selfsort.wrongs import NoItem, NoItems, NoOrder, NoPlace
 from tests.samples import near, odd_values, strictly, unchanged_by
+from tests.words import order_behind
 
 ORDERS = {
     2: [(0, 1), (1, 0)],
@@ -18,20 +19,6 @@ ORDERS = {
 }
 EVERY_ORDER = ORDERS[2] + ORDERS[3] + ORDERS[4]
 NO_NUMBERS_OF_ITEMS = odd_values() + [0, 1, 5, 6, -2, "3", (3,), [3]]
-
-
-def order_behind(order, item, place):
-    """The order behind moving, by the words of point 4 about the place of each single item."""
-    own = [at for at, other in enumerate(order) if other == item][0]
-    row = [None] * len(order)
-    for at, other in enumerate(order):
-        if at == own:
-            row[place] = other
-        elif place <= at < own:
-            row[at + 1] = other
-        else:
-            row[at] = other
-    return tuple(row)
 
 
 class TestExamples(unittest.TestCase):

@@ -1,11 +1,11 @@
 """Points 2 and 5, and selfsort/rules.py."""
 
 import unittest
-from itertools import product
 
 from selfsort.rules import is_rule, named_rule
 from selfsort.wrongs import NoItems, NoName
 from tests.samples import near, nested, odd_values, strictly, unchanged_by
+from tests.words import every_rule, rows_of_place
 
 NAMED = {
     (2, "front"): (2, 1, (((0, 0),), ((0, 0),))),
@@ -24,18 +24,6 @@ NAMED = {
     (3, "second"): (3, 2, (((0, 1), (0, 0)), ((1, 1), (0, 0)), ((2, 1), (0, 0)))),
     (4, "second"): (4, 2, (((0, 1), (0, 0)), ((1, 1), (0, 0)), ((2, 1), (0, 0)), ((3, 1), (0, 0)))),
 }
-
-
-def rows_of_place(place, flags):
-    """Every right row of the table for the place."""
-    entries = [(to, flag) for to in range(place + 1) for flag in range(flags)]
-    return list(product(entries, repeat=flags))
-
-
-def every_rule(items, flags):
-    """Every rule of so many items and flags."""
-    tables = product(*[rows_of_place(place, flags) for place in range(items)])
-    return [(items, flags, table) for table in tables]
 
 
 def texts_of_rules():
