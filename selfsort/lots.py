@@ -77,15 +77,20 @@ def answers(rules, lot, item):
     return [answer for answer, _ in Turns(rules).branches(lot, item)]
 
 
+def lot_behind(turns, lot, item, answer):
+    """The lot behind the item and the answer, any value; raises NoAnswer if it is not one of the answers."""
+    branches = dict(turns.branches(lot, item))
+    # A dict takes True for 1 and no list at all, so the kind is settled before it is asked.
+    if type(answer) is not int or answer not in branches:
+        raise NoAnswer(answer)
+    return branches[answer]
+
+
 def behind(rules, lot, item, value):
     """The lot behind the item and the answer value."""
     require_lot(rules, lot)
     require_item(rules[0][0], item)
-    branches = dict(Turns(rules).branches(lot, item))
-    # A dict takes True for 1 and no list at all, so the kind is settled before it is asked.
-    if type(value) is not int or value not in branches:
-        raise NoAnswer(value)
-    return branches[value]
+    return lot_behind(Turns(rules), lot, item, value)
 
 
 def is_log(items, value):

@@ -1,41 +1,41 @@
 """Trees of asks that reach a goal whatever case of the lot it is."""
 
 from selfsort.goals import meets, require_lot_and_goal
-from selfsort.heights import height_by, least_heights
 from selfsort.kinds import is_between, is_tuple_of
 from selfsort.webs import Turns, Web
+from selfsort.worsts import ASKS, first_item, least_worsts, trees_of
+
+
+def least_of_trees(rules, lot, goal, prices):
+    """The least that a tree counts at worst by these prices, or None; all is known to be of the right kinds."""
+    return least_worsts(Web(rules, lot), goal, prices)[0]
+
+
+def tree_of_least(rules, lot, goal, prices):
+    """A tree that counts the least at worst by these prices, or None; all is known to be of the right kinds."""
+    web = Web(rules, lot)
+    return trees_of(web, least_worsts(web, goal, prices), prices).get(0)
+
+
+def first_of_trees(rules, lot, goal, prices):
+    """The least item with which a tree that counts the least can begin, or None if the lot needs or has no tree."""
+    web = Web(rules, lot)
+    worsts = least_worsts(web, goal, prices)
+    if worsts[0] is None or worsts[0] == 0:
+        return None
+    return first_item(prices, worsts, web.steps[0], worsts[0])
 
 
 def least_asks(rules, lot, goal):
     """The least height of a tree, or None if there is no tree."""
     require_lot_and_goal(rules, lot, goal)
-    return least_heights(Web(rules, lot), goal)[0]
-
-
-def first_item(heights, steps, height):
-    """The least item with which a tree of this height can begin."""
-    return [height_by(heights, branches) for branches in steps].index(height)
-
-
-def trees_of(web, heights):
-    """A dict from the number of each lot that has a tree to one of the least height."""
-    trees = {}
-    numbers = [number for number, height in enumerate(heights) if height is not None]
-    for number in sorted(numbers, key=lambda one: heights[one]):
-        if heights[number] == 0:
-            trees[number] = ()
-        else:
-            item = first_item(heights, web.steps[number], heights[number])
-            branches = web.steps[number][item]
-            trees[number] = (item, tuple([(answer, trees[part]) for answer, part in branches]))
-    return trees
+    return least_of_trees(rules, lot, goal, ASKS)
 
 
 def best_tree(rules, lot, goal):
     """A tree of the least height, or None if there is no tree."""
     require_lot_and_goal(rules, lot, goal)
-    web = Web(rules, lot)
-    return trees_of(web, least_heights(web, goal)).get(0)
+    return tree_of_least(rules, lot, goal, ASKS)
 
 
 def is_branch(value, answer):
@@ -43,8 +43,8 @@ def is_branch(value, answer):
     return is_tuple_of(value, 2) and is_between(value[0], answer, answer)
 
 
-def trees_behind(turns, lot, items, value):
-    """The tuples (lot, what stands there for a tree) behind the answers, or None if the value can't be a tree."""
+def branches_of(turns, lot, items, value):
+    """The tuples (answer, lot, what stands there for a tree) of the value, or None if it can't be a tree."""
     if not is_tuple_of(value, 2) or not is_between(value[0], 0, items - 1):
         return None
     branches = turns.branches(lot, value[0])
@@ -52,38 +52,36 @@ def trees_behind(turns, lot, items, value):
         return None
     if not all([is_branch(entry, answer) for entry, (answer, _) in zip(value[1], branches)]):
         return None
-    return [(part, entry[1]) for entry, (_, part) in zip(value[1], branches)]
+    return [(answer, part, entry[1]) for entry, (answer, part) in zip(value[1], branches)]
 
 
-def height_or_none(rules, lot, goal, value):
-    """The height of the value, or None if it is not a tree; the others are known to be of the right kinds."""
+def worst_or_none(rules, lot, goal, value, prices):
+    """What the value counts at worst, or None if it is not a tree; the others are known to be of the right kinds."""
     turns = Turns(rules)
-    height = 0
-    level = [(lot, value)]
+    worst = 0
+    level = [(0, lot, value)]
     # Trees may be too high for recursion; level by level there are never more of them than cases of the lot.
     while level:
         following = []
-        for one, tree in level:
+        for spent, one, tree in level:
+            worst = max(worst, spent)
             if not is_tuple_of(tree, 0):
-                behind = trees_behind(turns, one, rules[0][0], tree)
-                if behind is None:
+                branches = branches_of(turns, one, rules[0][0], tree)
+                if branches is None:
                     return None
-                following.extend(behind)
+                following.extend([(spent + prices[answer], part, rest) for answer, part, rest in branches])
             elif not meets(one, goal):
                 return None
-        if following:
-            height += 1
         level = following
-    return height
+    return worst
 
 
 def is_tree(rules, lot, goal, value):
     """True if the value is a tree."""
-    require_lot_and_goal(rules, lot, goal)
-    return height_or_none(rules, lot, goal, value) is not None
+    return height_of(rules, lot, goal, value) is not None
 
 
 def height_of(rules, lot, goal, value):
     """The height of the value, or None if it is not a tree."""
     require_lot_and_goal(rules, lot, goal)
-    return height_or_none(rules, lot, goal, value)
+    return worst_or_none(rules, lot, goal, value, ASKS)

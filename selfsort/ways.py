@@ -2,6 +2,7 @@
 
 from selfsort.orders import require_order_of
 from selfsort.standings import asked_once, require_standing, stands_by
+from selfsort.webs import blind_rows
 
 
 def ways_from(rule, standing):
@@ -9,18 +10,9 @@ def ways_from(rule, standing):
 
     Its keys come in the order of these asks: fewer ones first, and of as many the least one first.
     """
-    ways = {standing: ()}
-    level = [standing]
-    while level:
-        following = []
-        for one in level:
-            for item in range(rule[0]):
-                _, turned = asked_once(rule, one, item)
-                if turned not in ways:
-                    ways[turned] = ways[one] + (item,)
-                    following.append(turned)
-        level = following
-    return ways
+    # A case alone stays alone, and as a rule has at most 384 standings, there are never too many lots.
+    rows = blind_rows((rule,), ((0, standing),))
+    return {lot[0][1]: asks for lot, asks in rows.items()}
 
 
 def reached(rule, standing):

@@ -1,4 +1,4 @@
-"""What cases and lots turn to behind asks, and the web of all lots that come of a lot.
+"""What cases and lots turn to behind asks, and all lots that come of a lot, by asks that are seen and by blind ones.
 
 All that is passed here is known to be of the right kinds.
 """
@@ -23,6 +23,7 @@ class Turns:
         self._rules = rules
         self._turned = {}
         self._branches = {}
+        self._blind = {}
 
     def turned(self, case, item):
         """The tuple (depth, case behind the ask) for the item."""
@@ -42,6 +43,12 @@ class Turns:
             depth, turned = self.turned(case, item)
             parts.setdefault(depth, []).append(turned)
         return [(depth, tuple(sorted(set(parts[depth])))) for depth in sorted(parts)]
+
+    def blind(self, lot, item):
+        """The lot behind the item asked blind."""
+        if (lot, item) not in self._blind:
+            self._blind[lot, item] = tuple(sorted(set([self.turned(case, item)[1] for case in lot])))
+        return self._blind[lot, item]
 
 
 class Web:
@@ -70,3 +77,24 @@ class Web:
             self._numbers[lot] = len(self.lots)
             self.lots.append(lot)
         return self._numbers[lot]
+
+
+def blind_rows(rules, lot):
+    """A dict from each lot that comes of the lot blind to the least of the fewest asks behind which it comes.
+
+    Its keys come in the order of these asks: fewer ones first, and of as many the least one first.
+    """
+    turns = Turns(rules)
+    rows = {lot: ()}
+    lots = [lot]
+    at = 0
+    while at < len(lots):
+        for item in range(rules[0][0]):
+            part = turns.blind(lots[at], item)
+            if part not in rows:
+                if len(lots) == MOST_LOTS:
+                    raise TooMany(MOST_LOTS)
+                rows[part] = rows[lots[at]] + (item,)
+                lots.append(part)
+        at += 1
+    return rows

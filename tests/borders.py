@@ -1,4 +1,4 @@
-"""Lots of a single rule of which very many lots come; test_lots.py counts them."""
+"""Lots of which very many lots come; test_lots.py and test_blind.py count them."""
 
 RULES_OF_600 = ((4, 2, (((0, 1), (0, 1)), ((1, 0), (0, 0)), ((0, 1), (1, 1)), ((3, 1), (1, 1)))),)
 LOT_OF_600 = (
@@ -8,4 +8,21 @@ RULES_OF_601 = ((4, 2, (((0, 0), (0, 0)), ((1, 1), (0, 1)), ((1, 0), (1, 1)), ((
 LOT_OF_601 = (
     (0, ((0, 1, 2, 3), (0, 0, 0, 1))), (0, ((0, 1, 2, 3), (1, 0, 0, 0))), (0, ((0, 2, 1, 3), (1, 1, 0, 1))),
     (0, ((1, 2, 3, 0), (0, 1, 1, 0))),
+)
+
+# Here the lots that come blind are so many, and those that come of what is told are few.
+RULES_OF_BLIND = ((4, 1, (((0, 0),), ((0, 0),), ((0, 0),), ((1, 0),))),)
+LOT_OF_600_BLIND = (
+    (0, ((0, 3, 1, 2), (0, 0, 0, 0))), (0, ((1, 0, 3, 2), (0, 0, 0, 0))), (0, ((3, 0, 2, 1), (0, 0, 0, 0))),
+    (0, ((3, 2, 1, 0), (0, 0, 0, 0))),
+)
+LOT_OF_601_BLIND = (
+    (0, ((0, 1, 2, 3), (0, 0, 0, 0))), (0, ((0, 2, 1, 3), (0, 0, 0, 0))), (0, ((1, 3, 2, 0), (0, 0, 0, 0))),
+    (0, ((2, 3, 0, 1), (0, 0, 0, 0))),
+)
+
+# Of the first lot of these rules 441 lots come blind, but more than 600 of what is told.
+RULES_OF_441_BLIND = (
+    (4, 1, (((0, 0),), ((0, 0),), ((0, 0),), ((3, 0),))),
+    (4, 2, (((0, 1), (0, 0)), ((1, 0), (1, 1)), ((2, 0), (1, 0)), ((2, 0), (3, 1)))),
 )

@@ -45,3 +45,21 @@ def with_tree():
 def without_tree():
     """Those of the drawn ones for which there is none."""
     return [search for search in drawn_searches() if search[1] in words.lots_without_tree(*search)]
+
+
+@lru_cache(maxsize=None)
+def drawn_blind():
+    """Those of the drawn ones of which at most 150 lots come blind."""
+    return [search for search in drawn_searches() if words.coming_blind(search[0], search[1], 150) is not None]
+
+
+@lru_cache(maxsize=None)
+def with_row():
+    """Those of them for which there is a blind row."""
+    return [search for search in drawn_blind() if words.least_blind_row(*search) is not None]
+
+
+@lru_cache(maxsize=None)
+def without_row():
+    """Those of them for which there is none."""
+    return [search for search in drawn_blind() if words.least_blind_row(*search) is None]

@@ -1,9 +1,10 @@
-"""Points 1 and 2: the parts that have landed are there, under their names and with their arguments."""
+"""Points 1 and 2: all parts are there, under their names and with their arguments."""
 
 import inspect
 import unittest
 
-from selfsort import goals, lots, orders, papers, parting, rules, standings, trees, ways, wrongs
+from selfsort import blind, costs, crowd, goals, lots, orders, papers, parting, records, rules, seeker, standings
+from selfsort import sure, trees, twins, ways, wrongs
 
 FUNCTIONS = (
     (orders, "is_order", ["items", "value"]),
@@ -39,11 +40,32 @@ FUNCTIONS = (
     (papers, "is_hard", ["rules", "lot", "goal", "k", "value"]),
     (papers, "endless_paper", ["rules", "lot", "goal"]),
     (papers, "is_endless", ["rules", "lot", "goal", "value"]),
+    (blind, "behind_blind", ["rules", "lot", "item"]),
+    (blind, "blind_row", ["rules", "lot", "goal"]),
+    (blind, "blind_paper", ["rules", "lot", "goal"]),
+    (blind, "is_blind_paper", ["rules", "lot", "goal", "value"]),
+    (costs, "least_cost", ["rules", "lot", "goal"]),
+    (costs, "cheapest_tree", ["rules", "lot", "goal"]),
+    (costs, "dear_paper", ["rules", "lot", "goal", "k"]),
+    (costs, "cost_of", ["rules", "lot", "goal", "value"]),
+    (costs, "is_dear", ["rules", "lot", "goal", "k", "value"]),
+    (sure, "sure_pairs", ["rules", "lot"]),
+    (sure, "sure_places", ["rules", "lot"]),
+    (records, "judge", ["record"]),
+    (twins, "twins", ["rule"]),
+    (twins, "are_twins", ["rule", "standing", "other"]),
 )
 
 # A class, the arguments that it is made of, and those of its methods.
 CLASSES = (
     (standings, "Store", ["rule", "standing"], {"ask": ["item"], "rule": [], "standing": [], "asked": []}),
+    (seeker, "Seeker", ["rules", "lot"], {
+        "told": ["item", "answer"], "lot": [], "log": [], "would": ["item", "answer"], "left": ["goal"],
+        "next_item": ["goal"], "mark": [], "back": ["number"], "marks": [],
+    }),
+    (crowd, "Crowd", ["rules", "lot", "seekers"], {
+        "told": ["seeker", "item", "answer"], "called": ["item"], "lot": ["seeker"], "shared": [],
+    }),
 )
 
 ERRORS = (

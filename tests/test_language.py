@@ -62,6 +62,12 @@ def bound_in_functions(tree):
     return names | {node.id for node in inner if isinstance(node, ast.Name) and isinstance(node.ctx, ast.Store)}
 
 
+def defined_in(tree):
+    """The names of the functions, classes and values that stand at the level of the module."""
+    values = {target.id for node in tree.body if isinstance(node, ast.Assign) for target in node.targets}
+    return values | {node.name for node in tree.body if isinstance(node, (ast.FunctionDef, ast.ClassDef))}
+
+
 def parents(tree):
     """A dict from each node to the one that holds it."""
     return {inner: node for node in ast.walk(tree) for inner in ast.iter_child_nodes(node)}
@@ -101,7 +107,7 @@ class TestImports(unittest.TestCase):
                     self.assertIn(imported.name, LIBRARY[node.module], name)
 
     def test_each_name_comes_from_the_file_that_defines_it(self):
-        defined = {name: {getattr(node, "name", None) for node in tree.body} for name, tree in trees()}
+        defined = {name: defined_in(tree) for name, tree in trees()}
         for name, node in nodes(ast.ImportFrom):
             if node.module.startswith("selfsort."):
                 for imported in node.names:

@@ -47,21 +47,6 @@ def least_by_trying(rules, one, other, most):
     return None
 
 
-def same_for_ever(rules, one, other):
-    """True if no asks part the cases: in all pairs of cases that come of them each item is as deep in both."""
-    seen, new = {(one, other)}, [(one, other)]
-    while new:
-        pair = new.pop()
-        for item in range(rules[0][0]):
-            (depth, left), (other_depth, right) = [words.ask_case(rules, case, item) for case in pair]
-            if depth != other_depth:
-                return False
-            if (left, right) not in seen:
-                seen.add((left, right))
-                new.append((left, right))
-    return True
-
-
 class TestExamples(Checks):
     def test_the_example_of_the_interface(self):
         self.check_examples(EXAMPLE)
@@ -79,7 +64,7 @@ class TestPartingAsks(Checks):
             told = parting_asks(rules, one, other)
             lengths[told and len(told)] = True
             if told is None:
-                self.assertIs(same_for_ever(rules, one, other), True)
+                self.assertIs(words.same_for_ever(rules, one, other), True)
             elif len(told) <= 5:
                 self.assertEqual(strictly(told), strictly(least_by_trying(rules, one, other, len(told))))
             else:

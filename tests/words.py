@@ -250,3 +250,209 @@ def is_endless(rules, lot, goal, value):
             if not any(part in value for part in lots_behind(rules, one, item).values()):
                 return False
     return True
+
+
+@lru_cache(maxsize=None)
+def lot_behind_blind(rules, lot, item):
+    """Point 14: the lot behind the item asked blind."""
+    return tuple(sorted({ask_case(rules, case, item)[1] for case in lot}))
+
+
+def coming_blind(rules, lot, most=600):
+    """Point 14: the ascending list of the lots that come of the lot blind, or None if there are more than so many."""
+    found = {lot}
+    new = found
+    while new and len(found) <= most:
+        new = {lot_behind_blind(rules, one, item) for one in new for item in range(rules[0][0])} - found
+        found |= new
+    return sorted(found) if len(found) <= most else None
+
+
+def least_blind_row(rules, lot, goal):
+    """Point 14: of the blind rows with the fewest asks the least one, or None."""
+    if not any(reaches(one, goal) for one in coming_blind(rules, lot)):
+        return None
+    # The lots behind all rows of so many asks, each with the least such row that leads to it.
+    rows = {lot: ()}
+    while not any(reaches(one, goal) for one in rows):
+        longer = [(one, asks + (item,), item) for one, asks in rows.items() for item in range(rules[0][0])]
+        rows = {}
+        for one, asks, item in longer:
+            part = lot_behind_blind(rules, one, item)
+            rows[part] = min(asks, rows.get(part, asks))
+    return min(asks for one, asks in rows.items() if reaches(one, goal))
+
+
+def is_blind_row(rules, lot, goal, asks):
+    """Point 14: asks behind which, asked blind, the lot reaches the goal."""
+    for item in asks:
+        lot = lot_behind_blind(rules, lot, item)
+    return reaches(lot, goal)
+
+
+def is_blind_paper(rules, lot, goal, value):
+    """Point 14: a blind paper."""
+    if not isinstance(value, list) or not all(is_lot(rules, one) for one in value) or lot not in value:
+        return False
+    if any(reaches(one, goal) for one in value):
+        return False
+    return all(lot_behind_blind(rules, one, item) in value for one in value for item in range(rules[0][0]))
+
+
+def reached_for(rules, lot, goal, k, known):
+    """Point 15: whether there is a tree that costs k or less at worst; known is a dict of what is known already."""
+    if reaches(lot, goal):
+        return True
+    if (lot, k) not in known:
+        known[lot, k] = any(
+            all(
+                depth + 1 <= k and reached_for(rules, part, goal, k - depth - 1, known)
+                for depth, part in lots_behind(rules, lot, item).items()
+            )
+            for item in range(rules[0][0])
+        )
+    return known[lot, k]
+
+
+def cost_of(rules, lot, goal, value):
+    """Point 15: the cost at worst of a tree, or None if the value is none."""
+    if height_of(rules, lot, goal, value) is None:
+        return None
+    if value == ():
+        return 0
+    lots = lots_behind(rules, lot, value[0])
+    return max(1 + answer + cost_of(rules, lots[answer], goal, tree) for answer, tree in value[1])
+
+
+def is_dear(rules, lot, goal, k, value):
+    """Point 15: a dear paper."""
+    if not isinstance(value, list) or not all(is_tuple(entry, 2) and is_lot(rules, entry[1]) for entry in value):
+        return False
+    if not all(is_integer(left, 0, 10 ** 20000) for left, _ in value) or (k, lot) not in value:
+        return False
+    for left, one in value:
+        if reaches(one, goal):
+            return False
+        for item in range(rules[0][0]):
+            lots = lots_behind(rules, one, item)
+            if not any(depth + 1 > left or (left - depth - 1, part) in value for depth, part in lots.items()):
+                return False
+    return True
+
+
+def is_ahead(order, item, other):
+    """Point 16: the one item stands ahead of the other one."""
+    for one in order:
+        if one in (item, other):
+            return one == item and one != other
+
+
+def sure_pairs(rules, lot):
+    """Point 16: the pairs of items of which the order is sure."""
+    pairs = permutations(range(rules[0][0]), 2)
+    return sorted(pair for pair in pairs if all(is_ahead(order, *pair) for _, (order, _) in lot))
+
+
+def sure_places(rules, lot):
+    """Point 16: the sure place of each item, or None."""
+    found = []
+    for item in range(rules[0][0]):
+        places = [place for place in range(rules[0][0]) if all(order[place] == item for _, (order, _) in lot)]
+        found.append(places[0] if places else None)
+    return found
+
+
+def same_for_ever(rules, one, other):
+    """Point 8: True if no asks part the cases: in all pairs of cases that come of them the depths are the same."""
+    seen, new = {(one, other)}, [(one, other)]
+    while new:
+        pair = new.pop()
+        for item in range(rules[0][0]):
+            (depth, left), (other_depth, right) = [ask_case(rules, case, item) for case in pair]
+            if depth != other_depth:
+                return False
+            if (left, right) not in seen:
+                seen.add((left, right))
+                new.append((left, right))
+    return True
+
+
+def twins(rule):
+    """Point 19: the standings in lists, each with all its twins."""
+    found = []
+    for standing in every_standing(rule):
+        for row in found:
+            if same_for_ever((rule,), (0, row[0]), (0, standing)):
+                row.append(standing)
+                break
+        else:
+            found.append([standing])
+    return found
+
+
+def least_height(rules, lot, goal):
+    """Point 12: the least height of a tree, or None."""
+    if lot in lots_without_tree(rules, lot, goal):
+        return None
+    known, k = {}, 0
+    while not reached_within(rules, lot, goal, k, known):
+        k += 1
+    return k
+
+
+def next_item(rules, lot, goal):
+    """Point 17 and the interface: the least item with which a tree of the least height can begin, or None."""
+    height = least_height(rules, lot, goal)
+    for item in range(rules[0][0]) if height else []:
+        if all(reached_within(rules, part, goal, height - 1, {}) for part in lots_behind(rules, lot, item).values()):
+            return item
+    return None
+
+
+def is_no_way(rule, standing, order, value):
+    """Point 7: a paper that there is no way to the order."""
+    if not isinstance(value, list) or not all(is_standing(rule, one) for one in value) or standing not in value:
+        return False
+    if any(one[0] == order for one in value):
+        return False
+    return all(ask(rule, one, item)[1] in value for one in value for item in range(rule[0]))
+
+
+def conditions(record):
+    """Point 18: the conditions of the record, as functions; a record of no form has none."""
+    form, first, second, third, *rest = record
+    last = rest[-1]
+    of_rule = [
+        lambda: is_rule(first), lambda: is_standing(first, second), lambda: is_order(first[0], third),
+    ]
+    of_rules = [
+        lambda: are_rules(first), lambda: is_lot(first, second), lambda: is_goal(first[0][0], third),
+    ]
+    return {
+        "way": of_rule + [
+            lambda: are_asks(first[0], last), lambda: run(first, second, last)[1][0] == third,
+        ],
+        "no way": of_rule + [lambda: is_no_way(first, second, third, last)],
+        "tree": of_rules + [lambda: height_of(first, second, third, last) is not None],
+        "hard": of_rules + [
+            lambda: is_integer(rest[0], 0, 100), lambda: is_hard(first, second, third, rest[0], last),
+        ],
+        "endless": of_rules + [lambda: is_endless(first, second, third, last)],
+        "blind": of_rules + [
+            lambda: are_asks(first[0][0], last), lambda: is_blind_row(first, second, third, last),
+        ],
+    }[form]
+
+
+def judged(record):
+    """Point 18: right, or the number of the first condition that does not hold."""
+    for number, holds in enumerate(conditions(record)):
+        if not holds():
+            return ("wrong", number)
+    return ("right",)
+
+
+def is_record(value):
+    """Point 18: a tuple of one of the six forms, by its first entry and its length."""
+    forms = [("way", 5), ("no way", 5), ("tree", 5), ("hard", 6), ("endless", 5), ("blind", 5)]
+    return isinstance(value, tuple) and any(len(value) == many and value[0] == word for word, many in forms)
