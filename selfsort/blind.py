@@ -1,8 +1,9 @@
 """Rows of asks whose depths are not seen, and papers that none of them reaches a goal."""
 
 from selfsort.goals import meets, require_lot_and_goal
-from selfsort.lots import is_lot_of, require_lot
+from selfsort.lots import require_lot
 from selfsort.orders import require_item
+from selfsort.papers import lots_before
 from selfsort.webs import Turns, blind_rows
 
 
@@ -34,10 +35,8 @@ def blind_paper(rules, lot, goal):
 def is_blind_paper(rules, lot, goal, value):
     """True if the value is a blind paper of the lot and the goal."""
     require_lot_and_goal(rules, lot, goal)
-    if type(value) is not list or not all([is_lot_of(rules, entry) for entry in value]):
-        return False
-    entries = {entry: True for entry in value}
-    if lot not in entries or any([meets(one, goal) for one in entries]):
+    entries = lots_before(rules, lot, goal, value)
+    if entries is None:
         return False
     turns = Turns(rules)
     return all([turns.blind(one, item) in entries for one in entries for item in range(rules[0][0])])

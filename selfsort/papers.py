@@ -1,4 +1,7 @@
-"""Hard papers, by which no tree of so few asks reaches a goal, and endless ones, by which no tree does."""
+"""Hard papers, by which no tree of so few asks reaches a goal, and endless ones, by which no tree does.
+
+What dear papers, which count costs, share with hard ones is told by the prices of an ask.
+"""
 
 from selfsort.goals import meets, require_lot_and_goal
 from selfsort.kinds import is_between, is_from, is_tuple_of
@@ -112,13 +115,21 @@ def goes_on(turns, entries, one, items):
     return True
 
 
+def lots_before(rules, lot, goal, value):
+    """A dict of the lots in the value, or None if it is not a list of lots, this one among them, before the goal."""
+    if type(value) is not list or not all([is_lot_of(rules, entry) for entry in value]):
+        return None
+    entries = {entry: True for entry in value}
+    if lot not in entries or any([meets(one, goal) for one in entries]):
+        return None
+    return entries
+
+
 def is_endless(rules, lot, goal, value):
     """True if the value is an endless paper of the lot and the goal."""
     require_lot_and_goal(rules, lot, goal)
-    if type(value) is not list or not all([is_lot_of(rules, entry) for entry in value]):
-        return False
-    entries = {entry: True for entry in value}
-    if lot not in entries or any([meets(one, goal) for one in entries]):
+    entries = lots_before(rules, lot, goal, value)
+    if entries is None:
         return False
     turns = Turns(rules)
     return all([goes_on(turns, entries, one, rules[0][0]) for one in entries])

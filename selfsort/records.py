@@ -19,10 +19,11 @@ OF_ONE_RULE = ("way", "no way")
 
 def is_record(value):
     """True if the value is a tuple of one of the forms, by its first entry and its length."""
-    # A dict takes no list for a key, so the first entry's kind is settled before it is asked.
-    if type(value) is not tuple or len(value) == 0 or type(value[0]) is not str:
+    if type(value) is not tuple or len(value) == 0:
         return False
-    return LENGTHS.get(value[0]) == len(value)
+    word = value[0]
+    # A dict takes no list for a key, so the word's kind is settled before it is asked.
+    return type(word) is str and LENGTHS.get(word) == len(value)
 
 
 def wrong_of_order(rule, standing, order):

@@ -1,12 +1,10 @@
 """A seeker: what is known of a list by what was asked and answered so far."""
 
-from selfsort.goals import require_lot_and_goal
 from selfsort.kinds import is_between
 from selfsort.lots import lot_behind, require_lot
 from selfsort.orders import require_item
-from selfsort.trees import first_of_trees, least_asks
+from selfsort.trees import first_of_best, least_asks
 from selfsort.webs import Turns
-from selfsort.worsts import ASKS
 from selfsort.wrongs import NoMark, TooMany
 
 MOST_MARKS = 6
@@ -46,8 +44,7 @@ class Seeker:
 
     def next_item(self, goal):
         """The least item with which a tree of the least height can begin, or None if nothing is left or no tree is."""
-        require_lot_and_goal(self._rules, self._lot, goal)
-        return first_of_trees(self._rules, self._lot, goal, ASKS)
+        return first_of_best(self._rules, self._lot, goal)
 
     def mark(self):
         """Make a mark and return its number."""

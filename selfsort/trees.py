@@ -17,15 +17,6 @@ def tree_of_least(rules, lot, goal, prices):
     return trees_of(web, least_worsts(web, goal, prices), prices).get(0)
 
 
-def first_of_trees(rules, lot, goal, prices):
-    """The least item with which a tree that counts the least can begin, or None if the lot needs or has no tree."""
-    web = Web(rules, lot)
-    worsts = least_worsts(web, goal, prices)
-    if worsts[0] is None or worsts[0] == 0:
-        return None
-    return first_item(prices, worsts, web.steps[0], worsts[0])
-
-
 def least_asks(rules, lot, goal):
     """The least height of a tree, or None if there is no tree."""
     require_lot_and_goal(rules, lot, goal)
@@ -36,6 +27,16 @@ def best_tree(rules, lot, goal):
     """A tree of the least height, or None if there is no tree."""
     require_lot_and_goal(rules, lot, goal)
     return tree_of_least(rules, lot, goal, ASKS)
+
+
+def first_of_best(rules, lot, goal):
+    """The least item with which a tree of the least height can begin, or None if the lot needs or has no tree."""
+    require_lot_and_goal(rules, lot, goal)
+    web = Web(rules, lot)
+    heights = least_worsts(web, goal, ASKS)
+    if heights[0] is None or heights[0] == 0:
+        return None
+    return first_item(heights, web.steps[0], heights[0], ASKS)
 
 
 def is_branch(value, answer):

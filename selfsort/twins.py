@@ -1,7 +1,6 @@
 """Twins: standings of a rule that no asks part."""
 
 from selfsort.parting import least_parting
-from selfsort.rules import require_rule
 from selfsort.standings import all_standings, asked_once, require_standing
 
 
@@ -29,7 +28,6 @@ def kinds_of(rule, standings):
 
 def twins(rule):
     """The ascending list of the ascending lists of standings that are each other's twins."""
-    require_rule(rule)
     standings = all_standings(rule)
     kinds = kinds_of(rule, standings)
     groups = {}

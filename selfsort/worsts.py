@@ -10,16 +10,16 @@ ASKS = (1, 1, 1, 1)
 COSTS = (1, 2, 3, 4)
 
 
-def worst_by(prices, worsts, branches):
+def worst_by(worsts, branches, prices):
     """The least that a tree counts at worst that begins with the item of these branches, or None."""
     if any([worsts[number] is None for _, number in branches]):
         return None
     return max([prices[answer] + worsts[number] for answer, number in branches])
 
 
-def least_by(prices, worsts, steps):
+def least_by(worsts, steps, prices):
     """The least that a tree counts at worst that begins with any item of the steps, or None."""
-    found = [worst_by(prices, worsts, branches) for branches in steps]
+    found = [worst_by(worsts, branches, prices) for branches in steps]
     return min([worst for worst in found if worst is not None], default=None)
 
 
@@ -30,13 +30,13 @@ def least_worsts(web, goal, prices):
     # In each round the trees may be one ask higher; once this changes nothing, it never does.
     while worsts != before:
         before = worsts
-        worsts = [own if own == 0 else least_by(prices, before, steps) for own, steps in zip(before, web.steps)]
+        worsts = [own if own == 0 else least_by(before, steps, prices) for own, steps in zip(before, web.steps)]
     return worsts
 
 
-def first_item(prices, worsts, steps, worst):
+def first_item(worsts, steps, worst, prices):
     """The least item with which a tree can begin that counts so much at worst."""
-    return [worst_by(prices, worsts, branches) for branches in steps].index(worst)
+    return [worst_by(worsts, branches, prices) for branches in steps].index(worst)
 
 
 def trees_of(web, worsts, prices):
@@ -47,13 +47,13 @@ def trees_of(web, worsts, prices):
         if worsts[number] == 0:
             trees[number] = ()
         else:
-            item = first_item(prices, worsts, web.steps[number], worsts[number])
+            item = first_item(worsts, web.steps[number], worsts[number], prices)
             branches = web.steps[number][item]
             trees[number] = (item, tuple([(answer, trees[part]) for answer, part in branches]))
     return trees
 
 
-def hardest(web, worsts, prices, branches):
+def hardest(web, worsts, branches, prices):
     """The branch (answer, number of the lot) behind which most is counted at worst, or there is no tree."""
     # Of equally hard ones the smallest lot, so that a paper of them is soon judged.
     return max(branches, key=lambda branch: (
@@ -62,4 +62,4 @@ def hardest(web, worsts, prices, branches):
 
 def hardest_branches(web, worsts, prices):
     """For each lot by its number, and for each item, the hardest branch."""
-    return [[hardest(web, worsts, prices, branches) for branches in steps] for steps in web.steps]
+    return [[hardest(web, worsts, branches, prices) for branches in steps] for steps in web.steps]

@@ -58,8 +58,8 @@ class TestBehindBlind(Checks):
     def test_whatever_the_depth_is(self):
         for rules, lot, _ in drawn_searches()[:60]:
             for item in range(rules[0][0]):
-                parts = [part for part in words.lots_behind(rules, lot, item).values()]
-                self.assertEqual(behind_blind(rules, lot, item), tuple(sorted({case for part in parts for case in part})))
+                cases = {case for part in words.lots_behind(rules, lot, item).values() for case in part}
+                self.assertEqual(behind_blind(rules, lot, item), tuple(sorted(cases)))
 
     def test_lots_of_48_cases(self):
         draw = Draw(14)

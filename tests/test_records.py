@@ -135,7 +135,8 @@ class TestForms(Checks):
     def test_the_number_k(self):
         one = BOTH[:1]
         for k in (0, 1, 7, 100):
-            self.assertEqual(judge(("hard", (STILL,), one, TURNED, k, [(left, one) for left in range(101)])), ("right",))
+            record = ("hard", (STILL,), one, TURNED, k, [(left, one) for left in range(101)])
+            self.assertEqual(judge(record), ("right",))
         for k in (-1, 101, True, False, None, "1", (1,), [1], 10 ** 19999):
             record = ("hard", (STILL,), one, TURNED, k, [(left, one) for left in range(101)])
             self.assertEqual(judge(record), ("wrong", 3))
